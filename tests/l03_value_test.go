@@ -4,6 +4,7 @@ import (
 	"cmp"
 	"math"
 	"slices"
+	"strconv"
 	"strings"
 	"testing"
 
@@ -308,12 +309,55 @@ func TestValText(t *testing.T) {
 		{atomVal(""), ""},
 		{tupleVal(), "{}"},
 		{tupleVal(slices.Repeat([]impl.Val{numVal(1)}, 21)...), "{" + strings.Repeat("1, ", 20) + "1}"},
-		{impl.Val{Kind: impl.VCons}, ""},
-		{impl.Val{Kind: impl.VCons, Kids: []impl.Val{numVal(1)}}, ""},
-		{impl.Val{Kind: impl.VCons, Kids: []impl.Val{numVal(1), numVal(2), numVal(3)}}, ""},
+		{cell(), "[]"},
+		{impl.Val{Kind: impl.VCons, N: 3, Text: "no"}, "[]"},
+		{cell(numVal(1)), "[1]"},
+		{cell(cell()), "[[]]"},
+		{cell(numVal(1), numVal(2), numVal(3)), "[1 | 2 | 3]"},
+		{tupleVal(cell(), numVal(1)), "{[], 1}"},
+		{consVal(cell(atomVal("a")), cell(nilVal(), cell(), tupleVal())), "[[a] | [[] | [] | {}]]"},
+		{cell(impl.Val{Kind: 5}), "[]"},
+		{cell(impl.Val{Kind: 5}, numVal(1), impl.Val{Kind: -1}), "[ | 1 | ]"},
 	} {
 		checkValText(t, c.val, c.want)
 	}
+}
+
+// cell is a list's cell with any number of kids.
+func cell(kids ...impl.Val) impl.Val {
+	return impl.Val{Kind: impl.VCons, Kids: kids}
+}
+
+// The Kind alone says how a value is told, however many kids it has.
+func TestValTextByKind(t *testing.T) {
+	for count := range 30 {
+		kids := slices.Repeat([]impl.Val{atomVal("b")}, count)
+		texts := slices.Repeat([]string{"b"}, count)
+		checkValText(t, cell(kids...), "["+strings.Join(texts, " | ")+"]")
+		checkValText(t, tupleVal(kids...), "{"+strings.Join(texts, ", ")+"}")
+	}
+	m := newMaker(37)
+	for range 3000 {
+		v := m.oddVal(3)
+		checkValText(t, v, slowText(v))
+		checkValText(t, cell(v, v, v), "["+slowText(v)+" | "+slowText(v)+" | "+slowText(v)+"]")
+	}
+}
+
+// slowText tells the kids first, and joins them by their own value's kind.
+func slowText(v impl.Val) string {
+	texts := []string{}
+	for _, kid := range v.Kids {
+		texts = append(texts, slowText(kid))
+	}
+	told := map[int]string{
+		impl.VNum:   strconv.Itoa(v.N),
+		impl.VAtom:  v.Text,
+		impl.VTuple: "{" + strings.Join(texts, ", ") + "}",
+		impl.VNil:   "[]",
+		impl.VCons:  "[" + strings.Join(texts, " | ") + "]",
+	}
+	return told[v.Kind]
 }
 
 func checkValText(t *testing.T, v impl.Val, want string) {
