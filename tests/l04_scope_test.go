@@ -237,7 +237,8 @@ func TestCallsAndPuts(t *testing.T) {
 	}
 }
 
-// Wrong inputs: what a kind has not is told as it stands there.
+// Wrong inputs: all that stands there is among the variables, and matches bind
+// in any kind's kids, but Free tells only what the document names of each kind.
 func TestNamesOfWrongExpressions(t *testing.T) {
 	x, y, z := variable("X"), variable("Y"), variable("Z")
 	odd := func(kind int, kids []impl.Exp, clauses ...impl.Clause) impl.Exp {
@@ -265,12 +266,12 @@ func TestNamesOfWrongExpressions(t *testing.T) {
 		{"a clause of nothing", odd(impl.ExCase, list(x), impl.Clause{}), "|X|X"},
 		{"kind 11", odd(11, list(match(x, y), x)), "X|Y|X Y"},
 		{"kind -1", odd(-1, list(x)), "|X|X"},
-		{"kind 11 with a clause", odd(11, list(match(x, num(1))), clause(only(y), x, y, z)), "X|Z|X Y Z"},
+		{"kind 11 with a clause", odd(11, list(match(x, num(1)), y), clause(only(y), x, y, z)), "X|Y|X Y Z"},
 		{"a number with kids", odd(impl.ExNum, list(match(x, num(1)), x, y)), "X|Y|X Y"},
-		{"a variable with kids", impl.Exp{Kind: impl.ExVar, Text: "X", Kids: list(match(x, y))}, "X|X Y|X Y"},
+		{"a number with a clause", odd(impl.ExNum, nil, clause(nil, x)), "||X"},
 		{"a tuple of nothing", odd(impl.ExTuple, nil), "||"},
-		{"a tuple with a clause", odd(impl.ExTuple, list(match(x, num(1))), clause(only(y), x, y, z)), "X|Z|X Y Z"},
-		{"a match with a clause", odd(impl.ExMatch, list(x, y), clause(only(y), x, y, z)), "X|Y Z|X Y Z"},
+		{"a tuple with a clause", odd(impl.ExTuple, list(match(x, num(1)), y), clause(only(y), x, y, z)), "X|Y|X Y Z"},
+		{"a call with a clause", odd(impl.ExCall, list(y), clause(nil, x)), "|Y|X Y"},
 		{"an atom by a variable's name", atom("X"), "||"},
 		{"a variable without a name", tuple(variable(""), x), "| X| X"},
 		{"a pattern with a call", match(call("", "f", x, y), x), "X Y|X|X Y"},
@@ -279,6 +280,75 @@ func TestNamesOfWrongExpressions(t *testing.T) {
 	}
 	if got := impl.ClauseFree(impl.Clause{}); len(got) != 0 {
 		t.Error("ClauseFree of nothing", got)
+	}
+}
+
+// Of a variable itself is free, where it is not bound: nothing of what stands
+// within it, though what a match there binds is bound behind it.
+func TestNamesOfVariablesWithParts(t *testing.T) {
+	x, y, z := variable("X"), variable("Y"), variable("Z")
+	odd := func(name string, kids []impl.Exp, clauses ...impl.Clause) impl.Exp {
+		return impl.Exp{Kind: impl.ExVar, Text: name, Kids: kids, Clauses: clauses}
+	}
+	for _, k := range []struct {
+		what string
+		exp  impl.Exp
+		want string
+	}{
+		{"a kid", odd("X", only(y)), "|X|X Y"},
+		{"a kid with a kid", odd("X", only(odd("Y", only(z)))), "|X|X Y Z"},
+		{"itself for a kid", odd("X", only(x)), "|X|X"},
+		{"a clause", odd("X", nil, clause(nil, y)), "|X|X Y"},
+		{"a clause that binds it", odd("X", nil, clause(only(x), match(x, num(1)))), "|X|X"},
+		{"a match", odd("X", only(match(y, z))), "Y|X|X Y Z"},
+		{"a match that binds it", odd("X", only(match(x, y))), "X|X|X Y"},
+		{"bound ahead", tuple(match(x, num(1)), odd("X", only(y), clause(nil, z))), "X||X Y Z"},
+		{"bound behind", tuple(odd("X", only(y)), match(x, num(1)), y), "X|X Y|X Y"},
+		{"a match, and what it binds behind", tuple(odd("X", only(match(y, z))), y, z), "Y|X Z|X Y Z"},
+		{"a match deep within, and what it binds behind", tuple(odd("X", only(tuple(odd("Z", only(match(y, num(1))))))), y), "Y|X|X Y Z"},
+		{"a match in a clause, and its variable behind", tuple(odd("X", nil, clause(nil, match(y, num(1)))), y), "|X Y|X Y"},
+		{"ahead of what a match in it binds", tuple(y, odd("X", only(match(y, num(1))))), "Y|X Y|X Y"},
+		{"a match that is a case's kid", cases(odd("X", only(match(y, num(1)))), clause(only(anyOne()), y, z)), "Y|X Z|X Y Z"},
+		{"in a clause", cases(num(1), clause(only(x), odd("X", only(y)), odd("Z", only(x)))), "|Z|X Y Z"},
+		{"in a match", match(x, odd("Y", only(z))), "X|Y|X Y Z"},
+		{"in a pattern", tuple(match(odd("X", only(y)), num(1)), x, y), "X Y||X Y"},
+	} {
+		checkNamesOf(t, k.what, k.exp, k.want)
+	}
+}
+
+// Of a match its second kid is free, and then its pattern binds: its clauses
+// are not told, and neither are those of one with other than two kids.
+func TestNamesOfMatchesWithClauses(t *testing.T) {
+	x, y, z, w := variable("X"), variable("Y"), variable("Z"), variable("W")
+	odd := func(kids []impl.Exp, clauses ...impl.Clause) impl.Exp {
+		return impl.Exp{Kind: impl.ExMatch, Kids: kids, Clauses: clauses}
+	}
+	list := func(kids ...impl.Exp) []impl.Exp { return kids }
+	for _, k := range []struct {
+		what string
+		exp  impl.Exp
+		want string
+	}{
+		{"a clause", odd(list(x, none()), clause(nil, y)), "X||X Y"},
+		{"a clause with what is told elsewhere", odd(list(x, y), clause(only(y), x, y, z)), "X|Y|X Y Z"},
+		{"two clauses", odd(list(x, y), clause(nil, z), clause(nil, w)), "X|Y|W X Y Z"},
+		{"a clause without a body", odd(list(x, y), clause(only(z))), "X|Y|X Y Z"},
+		{"a clause with a match", tuple(odd(list(x, y), clause(nil, match(z, w))), x, z), "X|Y Z|W X Y Z"},
+		{"a clause with its variable, which stands behind", tuple(odd(list(x, y), clause(nil, x)), x), "X|Y|X Y"},
+		{"one in the other", odd(list(x, odd(list(y, z), clause(nil, w))), clause(nil, w)), "Y X|Z|W X Y Z"},
+		{"in a clause", cases(num(1), clause(only(z), odd(list(x, z), clause(nil, y)), x)), "||X Y Z"},
+		{"a case's kid", cases(odd(list(x, y), clause(nil, z)), clause(only(anyOne()), x)), "X|Y|X Y Z"},
+		{"a case within", odd(list(x, cases(y, clause(only(anyOne()), z))), clause(nil, w)), "X|Y Z|W X Y Z"},
+		{"no kid", odd(nil, clause(nil, y)), "||Y"},
+		{"one kid", odd(list(x), clause(nil, y)), "|X|X Y"},
+		{"three kids", odd(list(x, y, z), clause(nil, w)), "|X Y Z|W X Y Z"},
+	} {
+		checkNamesOf(t, k.what, k.exp, k.want)
+		c := clause(nil, k.exp)
+		if got := strings.Join(impl.ClauseFree(c), " "); got != strings.Split(k.want, "|")[1] {
+			t.Errorf("%s: free in a clause's body are %s", k.what, got)
+		}
 	}
 }
 
@@ -343,16 +413,29 @@ func (s *stepsOf) exp(e impl.Exp, in []int) {
 	case e.Kind == impl.ExMatch && len(e.Kids) == 2:
 		s.exp(e.Kids[1], in)
 		s.pattern(e.Kids[0], in)
+	case e.Kind == impl.ExVar:
+		s.list = append(s.list, step{e.Text, false, in})
+		s.boundWithin(e, in)
 	default:
-		if e.Kind == impl.ExVar {
-			s.list = append(s.list, step{e.Text, false, in})
-		}
 		for _, kid := range e.Kids {
 			s.exp(kid, in)
 		}
 	}
-	for _, c := range e.Clauses {
-		s.clause(c, in)
+	if e.Kind == impl.ExCase {
+		for _, c := range e.Clauses {
+			s.clause(c, in)
+		}
+	}
+}
+
+// boundWithin tells what the kids bind for what stands behind, and nothing that they want.
+func (s *stepsOf) boundWithin(e impl.Exp, in []int) {
+	inner := stepsOf{}
+	for _, kid := range e.Kids {
+		inner.exp(kid, nil)
+	}
+	for _, name := range inner.bound() {
+		s.list = append(s.list, step{name, true, in})
 	}
 }
 
@@ -458,7 +541,7 @@ func TestClauseFreeAgainstSteps(t *testing.T) {
 	}
 }
 
-// P4: what is free or bound in an expression stands in it, and all that stands there is one of these, or a clause binds it.
+// P4: what is free or bound in an expression stands in it.
 func TestFreeAndBoundStandInIt(t *testing.T) {
 	m := newMaker(43)
 	for range 6000 {
