@@ -1,10 +1,16 @@
 package tests
 
-import "loop.example/g00377/impl"
+import (
+	"slices"
+
+	"loop.example/g00377/impl"
+)
 
 // runMaker makes programs that do something: most names that are asked for are bound, and most calls end.
+// Where good is set, all of them are Good.
 type runMaker struct {
 	maker
+	good bool
 	mods []impl.Module
 }
 
@@ -16,8 +22,13 @@ type scope struct {
 var runNames = []string{"A", "B", "C", "D"}
 
 // runnable makes a program of up to three modules; what is asked for is not always there.
-func (m maker) runnable() []impl.Module {
-	made := runMaker{maker: m}
+func (m maker) runnable() []impl.Module { return m.runnableOf(false) }
+
+// goodRunnable makes one that has no problem: what is asked for is there.
+func (m maker) goodRunnable() []impl.Module { return m.runnableOf(true) }
+
+func (m maker) runnableOf(good bool) []impl.Module {
+	made := runMaker{maker: m, good: good}
 	for _, name := range []string{"a", "b", "c"}[:1+m.Intn(3)] {
 		made.mods = append(made.mods, made.outline(name))
 	}
@@ -29,6 +40,9 @@ func (m maker) runnable() []impl.Module {
 	return made.mods
 }
 
+// astray is true once in so many times, and never where the program is to be good.
+func (m runMaker) astray(times int) bool { return m.Intn(times) == 0 && !m.good }
+
 // outline has functions without clauses, most of which are exported.
 func (m runMaker) outline(name string) impl.Module {
 	made := impl.Module{Name: name}
@@ -38,7 +52,7 @@ func (m runMaker) outline(name string) impl.Module {
 			if there {
 				made.Funs = append(made.Funs, impl.Fun{Name: fun, Arity: arity})
 			}
-			if there && m.Intn(5) > 0 || m.Intn(20) == 0 {
+			if there && m.Intn(5) > 0 || m.astray(20) {
 				made.Exports = append(made.Exports, impl.Ref{Name: fun, Arity: arity})
 			}
 		}
@@ -91,6 +105,9 @@ func (m runMaker) end(s *scope) impl.Exp {
 	}
 	switch m.Intn(12) {
 	case 0:
+		if m.good {
+			return atom("good")
+		}
 		return variable(pickOf(m.maker, runNames))
 	case 1, 2:
 		return none()
@@ -143,7 +160,7 @@ func (m runMaker) choice(at int, s *scope, deep int) impl.Exp {
 		inner := &scope{names: append([]string{}, s.names...)}
 		pat := m.pattern(inner, i+1)
 		made.Clauses = append(made.Clauses, clause(only(pat), m.acts(1+m.Intn(2), at, inner, deep)...))
-		if m.Intn(10) == 0 {
+		if m.astray(10) {
 			s.names = append(s.names, inner.names...)
 		}
 	}
@@ -152,13 +169,16 @@ func (m runMaker) choice(at int, s *scope, deep int) impl.Exp {
 
 // goal is what is called: most of the time what is there.
 func (m runMaker) goal(at int) target {
-	if m.Intn(12) == 0 {
+	if m.astray(12) {
 		return target{pickOf(m.maker, []string{"", "a", "b", "gone"}), pickOf(m.maker, []string{"f", "g", "put"}), m.Intn(3)}
 	}
 	i := m.Intn(len(m.mods))
 	f := pickOf(m.maker, m.mods[i].Funs)
 	if i == at && m.Intn(3) > 0 {
 		return target{"", f.Name, f.Arity}
+	}
+	if offered := slices.Contains(m.mods[i].Exports, impl.Ref{Name: f.Name, Arity: f.Arity}); m.good && !offered {
+		return target{m.mods[i].Name, "z", 1}
 	}
 	return target{m.mods[i].Name, f.Name, f.Arity}
 }

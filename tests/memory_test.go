@@ -3,6 +3,7 @@ package tests
 import (
 	"reflect"
 	"sort"
+	"strings"
 	"testing"
 )
 
@@ -37,21 +38,26 @@ func spansOf(v reflect.Value, path string) []span {
 // checkApart fails where two lists of what is answered, or one of these and one of an argument, share memory.
 func checkApart(t *testing.T, answer any, arguments ...any) {
 	t.Helper()
-	spans := spansOf(reflect.ValueOf(answer), "answer")
-	own := len(spans)
+	const own = "answer"
+	spans := spansOf(reflect.ValueOf(answer), own)
 	for _, a := range arguments {
-		for _, s := range spansOf(reflect.ValueOf(a), "argument") {
-			for _, mine := range spans[:own] {
-				if s.from < mine.to && mine.from < s.to {
-					t.Errorf("%s shares memory with %s", mine.path, s.path)
-				}
-			}
-		}
+		spans = append(spans, spansOf(reflect.ValueOf(a), "argument")...)
 	}
-	sort.Slice(spans, func(i, j int) bool { return spans[i].from < spans[j].from })
-	for i := 1; i < len(spans); i++ {
-		if spans[i].from < spans[i-1].to {
-			t.Errorf("%s shares memory with %s", spans[i].path, spans[i-1].path)
+	sort.SliceStable(spans, func(i, j int) bool { return spans[i].from < spans[j].from })
+	// The ones that go furthest: of all that were met, and of the answer's own.
+	var far, farOwn span
+	for _, s := range spans {
+		mine := strings.HasPrefix(s.path, own)
+		if mine && s.from < far.to {
+			t.Errorf("%s shares memory with %s", s.path, far.path)
+		} else if s.from < farOwn.to {
+			t.Errorf("%s shares memory with %s", s.path, farOwn.path)
+		}
+		if s.to > far.to {
+			far = s
+		}
+		if mine && s.to > farOwn.to {
+			farOwn = s
 		}
 	}
 }

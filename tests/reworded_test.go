@@ -1,0 +1,170 @@
+package tests
+
+import (
+	"slices"
+	"strconv"
+	"strings"
+	"testing"
+
+	"loop.example/g00377/impl"
+)
+
+// linesOf are the words of each line that a module is shown with: its name, its exports, and each clause.
+func linesOf(t *testing.T, m impl.Module) [][]impl.Token {
+	t.Helper()
+	lines := [][]impl.Token{}
+	for text := range strings.Lines(impl.Show(m)) {
+		words, line := impl.Lex(text)
+		if line != 0 {
+			t.Fatalf("%q is shown", text)
+		}
+		lines = append(lines, words)
+	}
+	if len(lines) < 3 {
+		t.Fatalf("%+v is not shown", m)
+	}
+	return lines
+}
+
+// wordsText is a program as lines of words with a blank between two.
+func wordsText(program [][][]impl.Token) string {
+	text := strings.Builder{}
+	for _, lines := range program {
+		for _, words := range lines {
+			for _, w := range words {
+				if w.Kind == impl.TokNumber {
+					text.WriteString(strconv.Itoa(w.N))
+				}
+				text.WriteString(w.Text + " ")
+			}
+			text.WriteString("\n")
+		}
+	}
+	return text.String()
+}
+
+func programWords(t *testing.T, p []impl.Module) [][][]impl.Token {
+	t.Helper()
+	list := [][][]impl.Token{}
+	for _, m := range p {
+		list = append(list, linesOf(t, m))
+	}
+	return list
+}
+
+// clauseLine is the line of a clause among those that its module is shown with.
+func clauseLine(m impl.Module, at impl.Place) int {
+	line := 2
+	for _, f := range m.Funs {
+		if f.Name == at.Name && f.Arity == at.Arity {
+			return line + at.Clause
+		}
+		line += len(f.Clauses)
+	}
+	return -1
+}
+
+// rewordedVar tells a program with a variable by another name, word by word.
+func rewordedVar(t *testing.T, p []impl.Module, at impl.Place, from, to string) string {
+	t.Helper()
+	words := programWords(t, p)
+	for i, m := range p {
+		if m.Name != at.Mod {
+			continue
+		}
+		line := words[i][clauseLine(m, at)]
+		for j := range line {
+			if line[j].Kind == impl.TokVar && line[j].Text == from {
+				line[j].Text = to
+			}
+		}
+	}
+	return wordsText(words)
+}
+
+// rewordedFun tells a program with a function by another name, word by word.
+func rewordedFun(t *testing.T, p []impl.Module, at impl.Place, to string) string {
+	t.Helper()
+	words := programWords(t, p)
+	for i, m := range p {
+		if m.Name == at.Mod {
+			words[i][1] = rewordedExports(words[i][1], at, to)
+		}
+		for _, line := range words[i][2:] {
+			for j, w := range line {
+				if w.Kind != impl.TokAtom || w.Text != at.Name || line[j+1].Text != "(" || kidsBehind(line, j+1) != at.Arity {
+					continue
+				}
+				mod := m.Name
+				if j > 0 && line[j-1].Text == ":" {
+					mod = line[j-2].Text
+				}
+				if mod == at.Mod {
+					line[j].Text = to
+				}
+			}
+		}
+	}
+	return wordsText(words)
+}
+
+// rewordedExports takes the words - export ( [ NAME / N , .. ] ) . and lays them out anew.
+func rewordedExports(words []impl.Token, at impl.Place, to string) []impl.Token {
+	refs := []string{}
+	for j := range words {
+		if words[j].Text != "/" {
+			continue
+		}
+		name := words[j-1].Text
+		if name == at.Name && words[j+1].N == at.Arity {
+			name = to
+		}
+		// A blank is less than all that a name is made of, and arities are single digits.
+		refs = append(refs, name+" / "+strconv.Itoa(words[j+1].N))
+	}
+	slices.Sort(refs)
+	made, _ := impl.Lex("-export([" + strings.Join(refs, ", ") + "]).")
+	return made
+}
+
+// varNames and funNames are names that stand in the programs that are made, and such as do not.
+var (
+	varNames = []string{"A", "B", "C", "D", "X", "Y", "New", "N_1", "Abcdefghij"}
+	funNames = []string{"f", "g", "h", "put", "z", "alone", "a0", "new", "n_1X", "zzzzzzzzzz", "a", "b"}
+)
+
+// placeIn is that of any clause of a program.
+func (m maker) placeIn(p []impl.Module) impl.Place {
+	mod := pickOf(m, p)
+	f := pickOf(m, mod.Funs)
+	return impl.Place{Mod: mod.Name, Name: f.Name, Arity: f.Arity, Clause: m.Intn(len(f.Clauses))}
+}
+
+// oddPlace is near to one of a program, or any.
+func (m maker) oddPlace(p []impl.Module) impl.Place {
+	at := impl.Place{Mod: pickOf(m, programModules), Name: pickOf(m, programFuns), Arity: m.Intn(3), Clause: m.Intn(2)}
+	if len(p) > 0 && m.Intn(6) > 0 {
+		mod := pickOf(m, p)
+		at.Mod = mod.Name
+		if len(mod.Funs) > 0 {
+			f := pickOf(m, mod.Funs)
+			at.Name, at.Arity = f.Name, f.Arity
+		}
+	}
+	switch m.Intn(8) {
+	case 0:
+		at.Mod = pickOf(m, oddNames)
+	case 1:
+		at.Name = pickOf(m, oddNames)
+	case 2:
+		at.Arity = pickOf(m, oddNumbers)
+	case 3:
+		at.Clause = pickOf(m, oddNumbers)
+	}
+	return at
+}
+
+var (
+	oddNames   = []string{"", " ", "_", "A", "B", "X", "Free", "a", "f", "g", "put", "case", "of", "end", "x y", "a:f", "f/1", "\x00", "\xff", "A\xff", "é", "Abcdefghijk", "abcdefghijk", "1", "a\n", "New", "new", strings.Repeat("a", 5000)}
+	oddNumbers = []int{-1 << 63, -1 << 32, -2, -1, 0, 1, 2, 3, 6, 7, 20, 1 << 32, 1<<63 - 1}
+)
