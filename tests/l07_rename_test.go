@@ -749,28 +749,33 @@ func checkRenamed(t *testing.T, p, got []impl.Module, code, want int) {
 	}
 }
 
+// spoilings are ways in which a module with a function f(X) is none any more.
+func spoilings() map[string]func(*impl.Module) {
+	return map[string]func(*impl.Module){
+		"no name":         func(m *impl.Module) { m.Name = "" },
+		"a great name":    func(m *impl.Module) { m.Name = "M" },
+		"no function":     func(m *impl.Module) { m.Funs = nil },
+		"empty functions": func(m *impl.Module) { m.Funs = []impl.Fun{} },
+		"one twice":       func(m *impl.Module) { m.Funs = append(m.Funs, m.Funs[0]) },
+		"no clause":       func(m *impl.Module) { m.Funs[0].Clauses = nil },
+		"no body":         func(m *impl.Module) { m.Funs[0].Clauses[0].Body = []impl.Exp{} },
+		"a pattern more":  func(m *impl.Module) { m.Funs[0].Clauses[0].Pats = []impl.Exp{anyOne(), variable("X")} },
+		"an export twice": func(m *impl.Module) { m.Exports = append(m.Exports, m.Exports[0]) },
+		"any in a body":   func(m *impl.Module) { m.Funs[0].Clauses[0].Body[0] = anyOne() },
+		"an unknown kind": func(m *impl.Module) {
+			m.Funs[0].Clauses[0].Body[0] = impl.Exp{Kind: 99, N: -3, Text: "X", Mod: "a", Kids: []impl.Exp{variable("X"), {}}, Clauses: []impl.Clause{{}, clause(only(variable("X")), variable("X"))}}
+		},
+		"a name of bytes": func(m *impl.Module) { m.Funs[0].Name = "\xff\x00" },
+		"too deep":        func(m *impl.Module) { m.Funs[0].Clauses[0].Body[0] = deepExp(41) },
+		"far too deep":    func(m *impl.Module) { m.Funs[0].Clauses[0].Body[0] = deepExp(20000) },
+	}
+}
+
 // Programs that are none, each wrong in one way.
 func TestRenameOfNoProgram(t *testing.T) {
 	good := []impl.Module{module(t, "a", "f/1", "f(X) -> X."), module(t, "m", "f/1", "f(X) -> a:f(X)."), module(t, "z", "f/1", "f(X) -> X.")}
 	for at := range good {
-		for what, spoil := range map[string]func(*impl.Module){
-			"no name":         func(m *impl.Module) { m.Name = "" },
-			"a great name":    func(m *impl.Module) { m.Name = "M" },
-			"no function":     func(m *impl.Module) { m.Funs = nil },
-			"empty functions": func(m *impl.Module) { m.Funs = []impl.Fun{} },
-			"one twice":       func(m *impl.Module) { m.Funs = append(m.Funs, m.Funs[0]) },
-			"no clause":       func(m *impl.Module) { m.Funs[0].Clauses = nil },
-			"no body":         func(m *impl.Module) { m.Funs[0].Clauses[0].Body = []impl.Exp{} },
-			"a pattern more":  func(m *impl.Module) { m.Funs[0].Clauses[0].Pats = []impl.Exp{anyOne(), variable("X")} },
-			"an export twice": func(m *impl.Module) { m.Exports = append(m.Exports, m.Exports[0]) },
-			"any in a body":   func(m *impl.Module) { m.Funs[0].Clauses[0].Body[0] = anyOne() },
-			"an unknown kind": func(m *impl.Module) {
-				m.Funs[0].Clauses[0].Body[0] = impl.Exp{Kind: 99, N: -3, Text: "X", Mod: "a", Kids: []impl.Exp{variable("X"), {}}, Clauses: []impl.Clause{{}, clause(only(variable("X")), variable("X"))}}
-			},
-			"a name of bytes": func(m *impl.Module) { m.Funs[0].Name = "\xff\x00" },
-			"too deep":        func(m *impl.Module) { m.Funs[0].Clauses[0].Body[0] = deepExp(41) },
-			"far too deep":    func(m *impl.Module) { m.Funs[0].Clauses[0].Body[0] = deepExp(20000) },
-		} {
+		for what, spoil := range spoilings() {
 			p := roomy(good)
 			spoil(&p[at])
 			checkUntouched(t, p, func(p []impl.Module) {

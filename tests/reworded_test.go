@@ -127,6 +127,144 @@ func rewordedExports(words []impl.Token, at impl.Place, to string) []impl.Token 
 	return made
 }
 
+// wordCut are some EXPs of a clause, told by the words of its line.
+type wordCut struct {
+	params, results string
+	line, made      string
+}
+
+// wordsOf is a text of words with a blank between two.
+func wordsOf(words []impl.Token) string {
+	return strings.TrimSuffix(wordsText([][][]impl.Token{{words}}), " \n")
+}
+
+// cutLine cuts the line NAME ( PATTERN , .. ) -> EXP , .. and ; or . behind into EXPs, and lays it out anew.
+func cutLine(line []impl.Token, from, count int, name string) wordCut {
+	arrow := slices.IndexFunc(line, func(w impl.Token) bool { return w.Text == "->" })
+	last := len(line) - 1
+	exps := partsOfWords(line[arrow+1 : last])
+	ahead := varsOfWords(line[:arrow])
+	texts := []string{}
+	bound, behind := []string{}, []string{}
+	for i, e := range exps {
+		texts = append(texts, wordsOf(e))
+		switch {
+		case i < from:
+			ahead = append(ahead, boundOfWords(e)...)
+		case i < from+count:
+			bound = append(bound, boundOfWords(e)...)
+		default:
+			behind = append(behind, varsOfWords(e)...)
+		}
+	}
+	params := keptNames(varsOfWords(slices.Concat(exps[from:from+count]...)), func(v string) bool { return slices.Contains(ahead, v) })
+	results := keptNames(bound, func(v string) bool { return slices.Contains(behind, v) && !slices.Contains(ahead, v) })
+	own := texts[from : from+count : from+count]
+	called := name + " ( " + strings.Join(params, " , ") + " )"
+	if len(params) == 0 {
+		called = name + " ( )"
+	}
+	put := called
+	if len(results) > 0 {
+		all := strings.Join(results, " , ")
+		if len(results) > 1 {
+			all = "{ " + all + " }"
+		}
+		own, put = append(own, all), all+" = "+called
+	}
+	body := slices.Concat(texts[:from], []string{put}, texts[from+count:])
+	return wordCut{
+		params:  strings.Join(params, " "),
+		results: strings.Join(results, " "),
+		line:    wordsOf(line[:arrow+1]) + " " + strings.Join(body, " , ") + " " + line[last].Text,
+		made:    called + " -> " + strings.Join(own, " , ") + " .",
+	}
+}
+
+func keptNames(list []string, keep func(string) bool) []string {
+	kept := []string{}
+	for _, name := range sortedOnce(list) {
+		if keep(name) {
+			kept = append(kept, name)
+		}
+	}
+	return kept
+}
+
+// partsOfWords are those between commas that stand in no brackets and in no case.
+func partsOfWords(words []impl.Token) [][]impl.Token {
+	list, deep := [][]impl.Token{{}}, 0
+	for _, w := range words {
+		switch {
+		case w.Kind == impl.TokSign && strings.Contains(" ( [ { case ", " "+w.Text+" "):
+			deep++
+		case w.Kind == impl.TokSign && strings.Contains(" ) ] } end ", " "+w.Text+" "):
+			deep--
+		case w.Text == "," && deep == 0:
+			list = append(list, nil)
+			continue
+		}
+		at := len(list) - 1
+		list[at] = append(list[at], w)
+	}
+	return list
+}
+
+func varsOfWords(words []impl.Token) []string {
+	list := []string{}
+	for _, w := range words {
+		if w.Kind == impl.TokVar {
+			list = append(list, w.Text)
+		}
+	}
+	return list
+}
+
+// boundOfWords goes back from each = that stands in no clause to the bracket that its pattern stands in: Show lays
+// brackets around each match but a body's own.
+func boundOfWords(words []impl.Token) []string {
+	list, clauses := []string{}, 0
+	for i, w := range words {
+		switch w.Text {
+		case "of":
+			clauses++
+		case "end":
+			clauses--
+		case "=":
+			begin := i
+			for begin > 0 && words[begin-1].Text != "(" {
+				begin--
+			}
+			if clauses == 0 {
+				list = append(list, varsOfWords(words[begin:i])...)
+			}
+		}
+	}
+	return list
+}
+
+// rewordedCut tells a program with EXPs as a function of its own, word by word; and what it wants and what is wanted of it.
+func rewordedCut(t *testing.T, p []impl.Module, at impl.Place, from, count int, name string) (string, wordCut) {
+	t.Helper()
+	text, cut := strings.Builder{}, wordCut{}
+	for i, lines := range programWords(t, p) {
+		if p[i].Name != at.Mod {
+			text.WriteString(wordsText([][][]impl.Token{lines}))
+			continue
+		}
+		for j, line := range lines {
+			words := wordsOf(line)
+			if j == clauseLine(p[i], at) {
+				cut = cutLine(line, from, count, name)
+				words = cut.line
+			}
+			text.WriteString(words + " \n")
+		}
+		text.WriteString(cut.made + " \n")
+	}
+	return text.String(), cut
+}
+
 // varNames and funNames are names that stand in the programs that are made, and such as do not.
 var (
 	varNames = []string{"A", "B", "C", "D", "X", "Y", "New", "N_1", "Abcdefghij"}
