@@ -903,11 +903,7 @@ func TestRunsAgainstAMachine(t *testing.T) {
 			told["out"] += min(1, len(got.Out))
 		}
 	}
-	for _, what := range []string{"ok", "fuel", "none", "out", "failunbound", "failbadarith", "failbadmatch", "failbadcase", "failbadfun", "failundef"} {
-		if told[what] < 100 {
-			t.Error("too few of a kind", what, told)
-		}
-	}
+	checkKinds(t, told, 100, "ok", "fuel", "none", "out", "failunbound", "failbadarith", "failbadmatch", "failbadcase", "failbadfun", "failundef")
 }
 
 // P6: what a program does with some fuel it does with more; and what it puts out is put out with more, too.

@@ -581,11 +581,7 @@ func TestMadeProgramsByOtherNames(t *testing.T) {
 			told["out"] += min(1, len(r.Out))
 		}
 	}
-	for _, what := range []string{"variable ok", "variable taken", "function ok", "function taken", "run ok", "run bad", "run none", "out"} {
-		if told[what] < 100 {
-			t.Error("too few of a kind", what, told)
-		}
-	}
+	checkKinds(t, told, 100, "variable ok", "variable taken", "function ok", "function taken", "run ok", "run bad", "run none", "out")
 	if told["variable full"]+told["function full"]+told["variable bad"]+told["function bad"] > 0 {
 		t.Error("refused", told)
 	}
@@ -629,11 +625,7 @@ func TestRenamesAgainstWords(t *testing.T) {
 			checkAgain(t, p, func(q []impl.Module) ([]impl.Module, int) { return impl.RenameFun(q, back, at.Name) }, got)
 		}
 	}
-	for _, what := range []string{"variable ok", "variable taken", "function ok", "function taken"} {
-		if told[what] < 150 {
-			t.Error("too few of a kind", what, told)
-		}
-	}
+	checkKinds(t, told, 150, "variable ok", "variable taken", "function ok", "function taken")
 }
 
 // P7: who calls whom, and what is reached, is the same by the new name.
@@ -708,13 +700,7 @@ func TestAnyRenames(t *testing.T) {
 	m := newMaker(74)
 	told := map[string]int{}
 	for i := range 4000 {
-		p := m.program([]int{0, 0, 0, 12}[i%4])
-		if i%5 == 0 {
-			p = []impl.Module{}
-			for range m.Intn(3) {
-				p = append(p, m.oddModule())
-			}
-		}
+		p := m.anyProgram(i)
 		at, from := m.oddPlace(p), pickOf(m, oddNames)
 		if vars := impl.VarsAt(p, at); m.Intn(4) > 0 && len(vars) > 0 {
 			from = pickOf(m, vars)
@@ -733,11 +719,7 @@ func TestAnyRenames(t *testing.T) {
 			t.Errorf("another answer: %+v %s %s %s", at, from, to, programTextOf(p))
 		}
 	}
-	for _, what := range []string{"variable ok", "variable bad", "variable none", "variable name", "variable taken", "function ok", "function bad", "function none", "function name", "function taken"} {
-		if told[what] < 50 {
-			t.Error("too few of a kind", what, told)
-		}
-	}
+	checkKinds(t, told, 50, "variable ok", "variable bad", "variable none", "variable name", "variable taken", "function ok", "function bad", "function none", "function name", "function taken")
 }
 
 func checkRenamed(t *testing.T, p, got []impl.Module, code, want int) {
@@ -925,21 +907,30 @@ func spoilExps(list []impl.Exp) {
 func TestRenamesApart(t *testing.T) {
 	p := []impl.Module{module(t, "a", "f/1", "f(X) -> m:f(X)."), module(t, "m", "f/1, g/1", "f(X) -> g(X), a:f(X). g(X) -> f(X).")}
 	names := []string{"h", "i", "j", "k", "l", "o", "q", "r"}
-	got, want := make([]string, len(names)), make([]string, len(names))
-	both := func(i int) string {
+	told := checkAlongside(t, len(names), func(i int) string {
 		byFun, _ := impl.RenameFun(p, place("m", "f", 1, 0), names[i])
 		byVar, _ := impl.RenameVar(byFun, place("m", names[i], 1, 0), "X", strings.ToUpper(names[i]))
 		return programTextOf(byVar)
+	})
+	if told[0] != "-module(a).\n-export([f/1]).\nf(X) -> m:h(X).\n-module(m).\n-export([g/1, h/1]).\nh(H) -> g(H), a:f(H).\ng(X) -> h(X).\n" {
+		t.Error("changes", told)
+	}
+}
+
+// checkAlongside wants the answers of calls beside one another to be those of calls behind one another, which it tells.
+func checkAlongside(t *testing.T, count int, answer func(i int) string) []string {
+	t.Helper()
+	got, want := make([]string, count), make([]string, count)
+	for i := range want {
+		want[i] = answer(i)
 	}
 	wait := sync.WaitGroup{}
-	for i := range names {
-		want[i] = both(i)
-	}
-	for i := range names {
-		wait.Go(func() { got[i] = both(i) })
+	for i := range got {
+		wait.Go(func() { got[i] = answer(i) })
 	}
 	wait.Wait()
-	if !slices.Equal(got, want) || want[0] != "-module(a).\n-export([f/1]).\nf(X) -> m:h(X).\n-module(m).\n-export([g/1, h/1]).\nh(H) -> g(H), a:f(H).\ng(X) -> h(X).\n" {
-		t.Error("changes", got, want)
+	if !slices.Equal(got, want) {
+		t.Error("beside one another they are", got, "and not", want)
 	}
+	return want
 }

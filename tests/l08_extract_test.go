@@ -5,7 +5,6 @@ import (
 	"slices"
 	"strconv"
 	"strings"
-	"sync"
 	"testing"
 
 	"loop.example/g00377/impl"
@@ -189,11 +188,7 @@ func TestParamsOfAnyClause(t *testing.T) {
 		told["params "+strconv.Itoa(min(2, len(strings.Fields(params))))]++
 		told["results "+strconv.Itoa(min(2, len(strings.Fields(results))))]++
 	}
-	for _, what := range []string{"params 0", "params 1", "params 2", "results 0", "results 1", "results 2"} {
-		if told[what] < 100 {
-			t.Error("too few of a kind", what, told)
-		}
-	}
+	checkKinds(t, told, 100, "params 0", "params 1", "params 2", "results 0", "results 1", "results 2")
 	deep := impl.Clause{Pats: only(deepExp(20000)), Body: []impl.Exp{deepExp(20000), match(variable("Y"), deepExp(20000)), deepExp(20000), variable("Y")}}
 	checkCutText(t, deep, 1, 2, "X|Y")
 }
@@ -339,6 +334,14 @@ func cutCodes(t *testing.T) (good []impl.Module, bad [][]impl.Module) {
 	return good, [][]impl.Module{loose, astray, hidden, {good[1], good[0]}, good[:1], {{}}, {good[0], good[0]}}
 }
 
+// placesOfNothing are those of no clause of the good program of cutCodes.
+var placesOfNothing = []impl.Place{
+	{}, place("q", "f", 2, 0), place("", "f", 2, 0), place("M", "f", 2, 0), place("m", "q", 2, 0), place("m", "", 2, 0), place("m", "put", 1, 0),
+	place("m", "f", 1, 0), place("m", "f", 3, 0), place("m", "f", -2, 0), place("a", "f", 2, 0), place("a", "g", 0, 0), place("m", "g", 1, 0),
+	place("m", "f", 2, -1), place("m", "f", 2, 3), place("m", "f", 2, math.MaxInt), place("m", "f", 2, math.MinInt), place("m", "f", 2, 1<<32),
+	place("m", "f", math.MaxInt, 0), place("m", "f", math.MinInt, 0), place("m", "f", 1<<32+2, 0), place("m:f", "f", 2, 0), place("m", "f/2", 2, 0),
+}
+
 var wrongNames = []string{"", "X", "_", "_x", "1", "x y", "New", "x\n", " x", "abcdefghijk", "é", "x\xff", "\x00", "x-", "case", "of", "end", "a:f", "f/2", strings.Repeat("x", 5000)}
 
 func TestExtractCodes(t *testing.T) {
@@ -351,12 +354,7 @@ func TestExtractCodes(t *testing.T) {
 			checkCutCode(t, p, at, 7, -1, name, impl.EdBad)
 			checkCutCode(t, p, place("q", "f", 2, 9), 0, 1, name, impl.EdBad)
 		}
-		for _, wrong := range []impl.Place{
-			{}, place("q", "f", 2, 0), place("", "f", 2, 0), place("M", "f", 2, 0), place("m", "q", 2, 0), place("m", "", 2, 0), place("m", "put", 1, 0),
-			place("m", "f", 1, 0), place("m", "f", 3, 0), place("m", "f", -2, 0), place("a", "f", 2, 0), place("a", "g", 0, 0), place("m", "g", 1, 0),
-			place("m", "f", 2, -1), place("m", "f", 2, 3), place("m", "f", 2, math.MaxInt), place("m", "f", 2, math.MinInt), place("m", "f", 2, 1<<32),
-			place("m", "f", math.MaxInt, 0), place("m", "f", math.MinInt, 0), place("m", "f", 1<<32+2, 0), place("m:f", "f", 2, 0), place("m", "f/2", 2, 0),
-		} {
+		for _, wrong := range placesOfNothing {
 			checkCutCode(t, good, wrong, 0, 1, name, impl.EdNone)
 		}
 		for _, k := range [][2]int{
@@ -551,20 +549,16 @@ func TestEachPartDoesTheSame(t *testing.T) {
 		{"util", "rev", []impl.Val{three}}, {"util", "rev", []impl.Val{odd}}, {"util", "both", []impl.Val{three}},
 	}
 	codes, cuts := map[int]int{}, 0
-	for _, m := range p {
-		for _, f := range m.Funs {
-			for i, c := range f.Clauses {
-				for from := range c.Body {
-					for count := 1; count <= len(c.Body)-from; count++ {
-						q, code := impl.Extract(p, place(m.Name, f.Name, f.Arity, i), from, count, "part")
-						if code != impl.EdOk {
-							t.Fatalf("%s/%d clause %d: %d from %d on is %d", f.Name, f.Arity, i, count, from, code)
-						}
-						cuts++
-						for _, s := range starts {
-							codes[checkDoesTheSame(t, p, q, s, 400).Code]++
-						}
-					}
+	for at, c := range clausesOf(p) {
+		for from := range c.Body {
+			for count := 1; count <= len(c.Body)-from; count++ {
+				q, code := impl.Extract(p, at, from, count, "part")
+				if code != impl.EdOk {
+					t.Fatalf("%+v: %d from %d on is %d", at, count, from, code)
+				}
+				cuts++
+				for _, s := range starts {
+					codes[checkDoesTheSame(t, p, q, s, 400).Code]++
 				}
 			}
 		}
@@ -617,11 +611,7 @@ func TestMadePartsDoTheSame(t *testing.T) {
 			}
 		}
 	}
-	for _, what := range []string{"ok", "params 0", "params 1", "params 2", "params 3", "params 4", "results 0", "results 1", "results 2", "run ok", "run bad", "run none", "out"} {
-		if told[what] < 100 {
-			t.Error("too few of a kind", what, told)
-		}
-	}
+	checkKinds(t, told, 100, "ok", "params 0", "params 1", "params 2", "params 3", "params 4", "results 0", "results 1", "results 2", "run ok", "run bad", "run none", "out")
 }
 
 // What comes out against the words that a program is shown with.
@@ -651,11 +641,7 @@ func TestExtractAgainstWords(t *testing.T) {
 			t.Fatalf("%s%+v %d from %d on as %s is (%d)\n%snot\n%s", programTextOf(p), at, count, from, name, code, text, want)
 		}
 	}
-	for _, what := range []string{"ok", "taken", "results 0", "results 1", "results 2"} {
-		if told[what] < 50 {
-			t.Error("too few of a kind", what, told)
-		}
-	}
+	checkKinds(t, told, 50, "ok", "taken", "results 0", "results 1", "results 2")
 }
 
 // P8: what was reached is reached still, and the new function with it, where its caller is.
@@ -716,16 +702,10 @@ func TestAnyExtract(t *testing.T) {
 	m := newMaker(85)
 	told := map[string]int{}
 	for i := range 3000 {
-		p := m.program([]int{0, 0, 0, 12}[i%4])
-		if i%5 == 0 {
-			p = []impl.Module{}
-			for range m.Intn(3) {
-				p = append(p, m.oddModule())
-			}
-		}
+		p := m.anyProgram(i)
 		at := m.oddPlace(p)
 		from, count := m.cutNumbers(impl.Clause{Body: make([]impl.Exp, 1+m.Intn(2))})
-		name := pickOf(m, [][]string{oddNames, funNames, funNames, programFuns}[i%4])
+		name := pickOf(m, [][]string{oddNames, funNames, programFuns, programFuns}[i%4])
 		got, code := impl.Extract(p, at, from, count, name)
 		told[impl.CodeText(code)]++
 		checkRenamed(t, p, got, code, slowCutCode(p, at, from, count, name))
@@ -733,11 +713,7 @@ func TestAnyExtract(t *testing.T) {
 			t.Errorf("another answer: %+v %d %d %s %s", at, from, count, name, programTextOf(p))
 		}
 	}
-	for _, what := range []string{"ok", "bad", "none", "name", "taken"} {
-		if told[what] < 40 {
-			t.Error("too few of a kind", what, told)
-		}
-	}
+	checkKinds(t, told, 40, "ok", "bad", "none", "name", "taken")
 }
 
 // Programs that are none, each wrong in one way.
@@ -807,20 +783,11 @@ func TestExtractsApart(t *testing.T) {
 		name        string
 	}
 	list := []asked{{0, 1, "one"}, {0, 2, "two"}, {1, 1, "f"}, {1, 2, "three"}, {2, 1, "put"}, {0, 4, "four"}, {3, 1, "One"}, {4, 1, "five"}}
-	answer := func(k asked) string {
-		got, code := impl.Extract(p, place("m", "f", 1, 0), k.from, k.count, k.name)
+	told := checkAlongside(t, len(list), func(i int) string {
+		got, code := impl.Extract(p, place("m", "f", 1, 0), list[i].from, list[i].count, list[i].name)
 		return impl.CodeText(code) + " " + programTextOf(got)
-	}
-	got, want := make([]string, len(list)), make([]string, len(list))
-	for i, k := range list {
-		want[i] = answer(k)
-	}
-	wait := sync.WaitGroup{}
-	for i, k := range list {
-		wait.Go(func() { got[i] = answer(k) })
-	}
-	wait.Wait()
-	if !slices.Equal(got, want) || !strings.HasSuffix(want[1], "f(X) -> {Y, Z} = two(X), put(Z), {X, Y}.\ntwo(X) -> Y = {X}, Z = {Y, X}, {Y, Z}.\n") {
-		t.Error("changes", got, want)
+	})
+	if !strings.HasSuffix(told[1], "f(X) -> {Y, Z} = two(X), put(Z), {X, Y}.\ntwo(X) -> Y = {X}, Z = {Y, X}, {Y, Z}.\n") {
+		t.Error("changes", told)
 	}
 }

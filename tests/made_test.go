@@ -4,6 +4,7 @@ import (
 	"fmt"
 	"math/rand"
 	"strings"
+	"testing"
 
 	"loop.example/g00377/impl"
 )
@@ -157,6 +158,16 @@ func (m maker) module(deep int) impl.Module {
 		}
 		if len(impl.Show(made)) <= impl.MaxText {
 			return made
+		}
+	}
+}
+
+// checkKinds wants so many of each kind among what was made: a test of too few tells nothing.
+func checkKinds(t *testing.T, told map[string]int, least int, kinds ...string) {
+	t.Helper()
+	for _, kind := range kinds {
+		if told[kind] < least {
+			t.Error("too few of a kind", kind, told)
 		}
 	}
 }

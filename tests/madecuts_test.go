@@ -9,7 +9,7 @@ type cutMaker struct {
 	names []string
 }
 
-var cutNames = []string{"A", "B", "C", "D", "E", "F", "G", "H", "Ab", "A1"}
+var cutNames = []string{"A", "B", "C", "D", "E", "F", "G", "H", "Ab", "A1", "I1", "I2"}
 
 // cutPlace is that of any clause, where there is such a function one of f/2 in module m most of the time.
 func (m maker) cutPlace(p []impl.Module) impl.Place {
@@ -28,6 +28,21 @@ func (m maker) cutOf(c impl.Clause) (from, count int) {
 		from /= 2
 	}
 	return from, 1 + m.Intn(len(c.Body)-from)
+}
+
+// clausesOf tells each clause of a program with its place.
+func clausesOf(p []impl.Module) func(yield func(impl.Place, impl.Clause) bool) {
+	return func(yield func(impl.Place, impl.Clause) bool) {
+		for _, m := range p {
+			for _, f := range m.Funs {
+				for i, c := range f.Clauses {
+					if !yield(impl.Place{Mod: m.Name, Name: f.Name, Arity: f.Arity, Clause: i}, c) {
+						return
+					}
+				}
+			}
+		}
+	}
 }
 
 func clausesIn(p []impl.Module, at impl.Place) []impl.Clause {

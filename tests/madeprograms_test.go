@@ -137,6 +137,18 @@ func (m programMaker) callable(at int) target {
 // goodProgram makes one that calls nothing but what is there.
 func (m maker) goodProgram() []impl.Module { return m.program(0) }
 
+// anyProgram makes good ones, such as have problems, and modules of any kind, one behind the other.
+func (m maker) anyProgram(turn int) []impl.Module {
+	if turn%5 > 0 {
+		return m.program([]int{0, 0, 0, 12}[turn%4])
+	}
+	p := []impl.Module{}
+	for range m.Intn(3) {
+		p = append(p, m.oddModule())
+	}
+	return p
+}
+
 // targetsOf tells the calls of a function in the order of the words that it is shown with.
 func targetsOf(words []impl.Token) []target {
 	list := []target{}

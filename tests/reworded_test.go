@@ -192,7 +192,10 @@ func keptNames(list []string, keep func(string) bool) []string {
 }
 
 // partsOfWords are those between commas that stand in no brackets and in no case.
-func partsOfWords(words []impl.Token) [][]impl.Token {
+func partsOfWords(words []impl.Token) [][]impl.Token { return splitWords(words, ",") }
+
+// splitWords are the words between some signs that stand in no brackets and in no case.
+func splitWords(words []impl.Token, signs ...string) [][]impl.Token {
 	list, deep := [][]impl.Token{{}}, 0
 	for _, w := range words {
 		switch {
@@ -200,7 +203,7 @@ func partsOfWords(words []impl.Token) [][]impl.Token {
 			deep++
 		case w.Kind == impl.TokSign && strings.Contains(" ) ] } end ", " "+w.Text+" "):
 			deep--
-		case w.Text == "," && deep == 0:
+		case slices.Contains(signs, w.Text) && deep == 0:
 			list = append(list, nil)
 			continue
 		}
@@ -263,6 +266,115 @@ func rewordedCut(t *testing.T, p []impl.Module, at impl.Place, from, count int, 
 		text.WriteString(cut.made + " \n")
 	}
 	return text.String(), cut
+}
+
+// kidsOfWords are those of NAME ( KID , .. ), and whether the words are that.
+func kidsOfWords(words []impl.Token) ([][]impl.Token, bool) {
+	last := len(words) - 1
+	if last < 2 || words[0].Kind != impl.TokAtom || words[1].Text != "(" || words[last].Text != ")" || len(splitWords(words, madeOps...)) > 1 {
+		return nil, false
+	}
+	if last == 2 {
+		return nil, true
+	}
+	return partsOfWords(words[2:last]), true
+}
+
+// bracketed is a text of words as it is shown within others.
+func bracketed(words []impl.Token) string {
+	if words[0].Text == "case" || len(splitWords(words, append(madeOps, "=")...)) > 1 {
+		return "( " + wordsOf(words) + " )"
+	}
+	return wordsOf(words)
+}
+
+// calledLine is the only line of a function whose patterns are variables, no two alike; nothing where there is none.
+func calledLine(m impl.Module, lines [][]impl.Token, name string, arity int) (params, body [][]impl.Token) {
+	at := impl.Place{Mod: m.Name, Name: name, Arity: arity}
+	if len(clausesIn([]impl.Module{m}, at)) != 1 {
+		return nil, nil
+	}
+	line := lines[clauseLine(m, at)]
+	halves := splitWords(line[:len(line)-1], "->")
+	params, _ = kidsOfWords(halves[0])
+	for _, pat := range params {
+		if pat[0].Kind != impl.TokVar {
+			return nil, nil
+		}
+	}
+	if head := varsOfWords(halves[0]); len(sortedOnce(head)) < arity {
+		return nil, nil
+	}
+	return params, partsOfWords(halves[1])
+}
+
+// freshWords gives each variable the name in the place of its own.
+func freshWords(words []impl.Token, own, fresh []string) []impl.Token {
+	made := slices.Clone(words)
+	for i, w := range made {
+		if w.Kind == impl.TokVar {
+			made[i].Text = fresh[slices.Index(own, w.Text)]
+		}
+	}
+	return made
+}
+
+// unusedNames goes on from I1 till there are as many that are none of these.
+func unusedNames(used []string, count int) []string {
+	list := []string{}
+	for i := 1; len(list) < count; i++ {
+		if name := "I" + strconv.Itoa(i); !slices.Contains(used, name) {
+			list = append(list, name)
+		}
+	}
+	return list
+}
+
+// rewordedCall tells a program with a function's body in the place of a call, word by word, and the code.
+func rewordedCall(t *testing.T, p []impl.Module, at impl.Place, n int) (string, int) {
+	t.Helper()
+	words := programWords(t, p)
+	home := slices.IndexFunc(p, func(m impl.Module) bool { return m.Name == at.Mod })
+	line := &words[home][clauseLine(p[home], at)]
+	end := len(*line) - 1
+	halves := splitWords((*line)[:end], "->")
+	exps := partsOfWords(halves[1])
+	sides := splitWords(exps[n], "=")
+	called := sides[len(sides)-1]
+	kids, ok := kidsOfWords(called)
+	if !ok {
+		return "", impl.EdShape
+	}
+	params, body := calledLine(p[home], words[home], called[0].Text, len(kids))
+	if body == nil {
+		return "", impl.EdShape
+	}
+	own := sortedOnce(varsOfWords(slices.Concat(slices.Concat(params...), slices.Concat(body...))))
+	fresh := unusedNames(varsOfWords(*line), len(own))
+	texts := []string{}
+	for i, e := range exps {
+		if i != n {
+			texts = append(texts, wordsOf(e))
+			continue
+		}
+		for j, kid := range kids {
+			texts = append(texts, wordsOf(freshWords(params[j], own, fresh))+" = "+wordsOf(kid))
+		}
+		for j, inner := range body {
+			made := freshWords(inner, own, fresh)
+			if j == len(body)-1 && len(sides) > 1 {
+				texts = append(texts, wordsOf(sides[0])+" = "+bracketed(made))
+				continue
+			}
+			texts = append(texts, wordsOf(made))
+		}
+	}
+	if len(texts) > 20 || len(own) > 60 {
+		return "", impl.EdFull
+	}
+	made, _ := impl.Lex(wordsOf(halves[0]) + " -> " + strings.Join(texts, " , ") + " " + (*line)[end].Text)
+	*line = made
+	return wordsText(words), impl.EdOk
 }
 
 // varNames and funNames are names that stand in the programs that are made, and such as do not.
