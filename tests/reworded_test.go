@@ -108,20 +108,32 @@ func rewordedFun(t *testing.T, p []impl.Module, at impl.Place, to string) string
 	return wordsText(words)
 }
 
-// rewordedExports takes the words - export ( [ NAME / N , .. ] ) . and lays them out anew.
+// rewordedExports lays the words of the exports out anew, with a function by another name.
 func rewordedExports(words []impl.Token, at impl.Place, to string) []impl.Token {
-	refs := []string{}
-	for j := range words {
-		if words[j].Text != "/" {
-			continue
+	refs := exportsOfWords(words)
+	for i, ref := range refs {
+		if ref == exportOf(at.Name, at.Arity) {
+			refs[i] = exportOf(to, at.Arity)
 		}
-		name := words[j-1].Text
-		if name == at.Name && words[j+1].N == at.Arity {
-			name = to
-		}
-		// A blank is less than all that a name is made of, and arities are single digits.
-		refs = append(refs, name+" / "+strconv.Itoa(words[j+1].N))
 	}
+	return wordsOfExports(refs)
+}
+
+func exportOf(name string, arity int) string { return name + " / " + strconv.Itoa(arity) }
+
+// exportsOfWords takes the words - export ( [ NAME / N , .. ] ) . apart.
+func exportsOfWords(words []impl.Token) []string {
+	refs := []string{}
+	for j, w := range words {
+		if w.Text == "/" {
+			refs = append(refs, exportOf(words[j-1].Text, words[j+1].N))
+		}
+	}
+	return refs
+}
+
+// wordsOfExports are in order: a blank is less than all that a name is made of, and arities are single digits.
+func wordsOfExports(refs []string) []impl.Token {
 	slices.Sort(refs)
 	made, _ := impl.Lex("-export([" + strings.Join(refs, ", ") + "]).")
 	return made
@@ -375,6 +387,75 @@ func rewordedCall(t *testing.T, p []impl.Module, at impl.Place, n int) (string, 
 	made, _ := impl.Lex(wordsOf(halves[0]) + " -> " + strings.Join(texts, " , ") + " " + (*line)[end].Text)
 	*line = made
 	return wordsText(words), impl.EdOk
+}
+
+// isLineOf tells whether a clause's line is one of that function.
+func isLineOf(line []impl.Token, name string, arity int) bool {
+	return line[0].Text == name && kidsBehind(line, 1) == arity
+}
+
+// movedLine has each call of at's function go to another module. In the function itself, which stands there then, a
+// call of it without a module's name stays, and one of what stays behind gets the old module's name.
+func movedLine(line []impl.Token, in, home impl.Module, at impl.Place, to string) []impl.Token {
+	own := in.Name == at.Mod && isLineOf(line, at.Name, at.Arity)
+	made := slices.Clone(line[:1])
+	for j := 1; j < len(line); j++ {
+		w := line[j]
+		if w.Kind != impl.TokAtom || line[j+1].Text != "(" {
+			made = append(made, w)
+			continue
+		}
+		called := target{in.Name, w.Text, kidsBehind(line, j+1)}
+		named := line[j-1].Text == ":"
+		if named {
+			called.mod = line[j-2].Text
+			made = made[:len(made)-2]
+		}
+		isIt := called == target{at.Mod, at.Name, at.Arity}
+		switch {
+		case isIt && own && !named:
+			called.mod = ""
+		case isIt:
+			called.mod = to
+		case !named && !(own && isThere(home, called)):
+			called.mod = ""
+		}
+		if called.mod != "" {
+			made = append(made, impl.Token{Kind: impl.TokAtom, Text: called.mod}, impl.Token{Kind: impl.TokSign, Text: ":"})
+		}
+		made = append(made, w)
+	}
+	return made
+}
+
+// rewordedMove tells a program with a function at the end of another module, word by word.
+func rewordedMove(t *testing.T, p []impl.Module, at impl.Place, to string) string {
+	t.Helper()
+	home := p[slices.IndexFunc(p, func(m impl.Module) bool { return m.Name == at.Mod })]
+	program, gone, goal := programWords(t, p), [][]impl.Token{}, 0
+	for i, lines := range program {
+		kept := lines[:2:2]
+		refs := exportsOfWords(lines[1])
+		for _, line := range lines[2:] {
+			made := movedLine(line, p[i], home, at, to)
+			if p[i].Name == at.Mod && isLineOf(line, at.Name, at.Arity) {
+				gone = append(gone, made)
+			} else {
+				kept = append(kept, made)
+			}
+		}
+		switch p[i].Name {
+		case to:
+			goal = i
+			refs = append(refs, exportOf(at.Name, at.Arity))
+		case at.Mod:
+			refs = keptNames(refs, func(ref string) bool { return ref != exportOf(at.Name, at.Arity) })
+		}
+		kept[1] = wordsOfExports(refs)
+		program[i] = kept
+	}
+	program[goal] = append(program[goal], gone...)
+	return wordsText(program)
 }
 
 // varNames and funNames are names that stand in the programs that are made, and such as do not.
