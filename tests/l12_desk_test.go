@@ -435,8 +435,15 @@ func TestDeskWhat(t *testing.T) {
 			return strings.Join(list, " ")
 		}
 		for i, word := range words {
-			lines = append(lines, with(i, ""), with(i, " "+word), with(i, word+" "))
-			if _, err := strconv.Atoi(word); err != nil {
+			_, err := strconv.Atoi(word)
+			// One part more is one more value of a run, of which the first ones are names then.
+			if words[0] != "run" || err == nil {
+				lines = append(lines, with(i, " "+word), with(i, word+" "))
+			}
+			if i == 0 || err == nil {
+				lines = append(lines, with(i, ""))
+			}
+			if err != nil {
 				continue
 			}
 			for _, number := range []string{"01", "00", "+1", "-0", "9999999999999999999", "1.", "1x", "1\x00", "\xff", "0x1", "１", ".1", "1,"} {
@@ -461,6 +468,32 @@ func TestDeskWhat(t *testing.T) {
 		if got := slowScript(script); got != want {
 			t.Errorf("%q, by a second telling: %q", line, got)
 		}
+	}
+}
+
+// An empty part of a line is a name as any other text is: what is asked tells that there is none such, or that it may
+// be none. Where a number or a value is wanted it is what, and so is a part too many.
+func TestDeskOfEmptyNames(t *testing.T) {
+	a := laidText("a", "f/1, g/0", "f(X) -> Y = {X}, put(Y).\ng() -> a.\nh() -> 1.")
+	b := laidText("b", "", "k() -> 1.")
+	asked := []struct{ line, want string }{
+		{"var  f 1 0 X New", "none"}, {"var a  1 0 X New", "none"}, {"var   1 0 X New", "none"}, {"var a f 1 0  New", "none"}, {"var a f 1 0  ", "none"}, {"var a f 1 0 Q ", "none"}, {"var a f 1 0 X ", "name"}, {"var a f 1 1 X ", "none"}, {"var   1 0  ", "none"},
+		{"fun  f 1 new", "none"}, {"fun a  1 new", "none"}, {"fun   1 new", "none"}, {"fun a f 1 ", "name"}, {"fun a f 2 ", "none"}, {"fun  f 1 ", "none"}, {"fun   0 ", "none"},
+		{"cut  f 1 0 0 1 new", "none"}, {"cut a  1 0 0 1 new", "none"}, {"cut a f 1 0 0 1 ", "name"}, {"cut a f 1 0 0 3 ", "none"}, {"cut a f 1 1 0 1 ", "none"}, {"cut   0 0 0 0 ", "none"},
+		{"into  f 1 0 0", "none"}, {"into a  1 0 0", "none"}, {"into   1 0 0", "none"},
+		{"move  f 1 b", "none"}, {"move a  1 b", "none"}, {"move a f 1 ", "none"}, {"move   0 ", "none"},
+	}
+	for _, k := range asked {
+		checkDesk(t, part{k.line, "none"}, part{"open", "ok"}, part{k.line, "none"}, part{"past", "0 0"})
+		checkDesk(t, part{a, "ok"}, part{b, "ok"}, part{k.line, "none"}, part{"open", "ok"}, part{k.line, k.want}, part{"past", "0 0"}, part{"fun a h 0 j", "ok"}, part{k.line, k.want}, part{"past", "1 0"}, part{"undo", "ok"}, part{k.line, k.want}, part{"past", "0 1"}, part{"redo", "ok"})
+	}
+	for _, line := range []string{"show ", "run  ", "run  f", "run a ", "run  f 1", "run a  1", "run   1", "run   a [1|[]] {2}", "run  a f 1", "run a  f 1"} {
+		checkDesk(t, part{line, "none"}, part{a, "ok"}, part{b, "ok"}, part{line, "none"}, part{"open", "ok"}, part{line, "none"}, part{"fun a g 0 j", "ok"}, part{line, "none"}, part{"run a j", "ok a"})
+	}
+	what := []string{"", " ", "  ", "show  ", "show a ", "show  a", "run a g ", "run  g ", "run a  ", "run   ", "run a f  1", "run a f 1 ", "run    1", "run   (", "run ", "open ", "past ", "check ", "prune ", "undo ", "redo ", "calls ", "unused ", "module ", " module"}
+	what = append(what, "var a f  0 X New", "var a f 1  X New", "var a f 1 0 X New ", "var a f 1 0 X  New", "var      ", "fun a f  new", "fun a f  ", "fun a f 1  ", "fun    ", "cut a f  0 0 1 new", "cut a f 1  0 1 new", "cut a f 1 0  1 new", "cut a f 1 0 0  new", "cut a f 1 0 0 1 new ", "into a f  0 0", "into a f 1  0", "into a f 1 0 ", "into a f 1 0 0 ", "move a f  b", "move a f 1 b ", "move a f 1  b", "move a f 1")
+	for _, line := range what {
+		checkDesk(t, part{line, "what"}, part{a, "ok"}, part{b, "ok"}, part{line, "what"}, part{"open", "ok"}, part{line, "what"}, part{"past", "0 0"})
 	}
 }
 

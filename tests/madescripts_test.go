@@ -89,13 +89,13 @@ type slowDesk struct {
 	open *history
 }
 
-// scriptForms are the lines of a script: W is any word, N a number, V any words of values.
+// scriptForms are the lines of a script: W is any word (or none, between two blanks), N a number, V any words of values.
 var scriptForms = map[string]*regexp.Regexp{}
 
 func formOf(form string) *regexp.Regexp {
 	known, ok := scriptForms[form]
 	if !ok {
-		parts := strings.NewReplacer("W", `([^ ]+)`, "N", `(0|[1-9][0-9]{0,5})`, " V", `((?: [^ ]+)*)`)
+		parts := strings.NewReplacer("W", `([^ ]*)`, "N", `(0|[1-9][0-9]{0,5})`, " V", `((?: [^ ]+)*)`)
 		known = regexp.MustCompile(`(?s)\A` + parts.Replace(form) + `\z`)
 		scriptForms[form] = known
 	}
